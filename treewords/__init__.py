@@ -1,0 +1,1 @@
+"""Any grammar: its texts, all their trees."""
