@@ -1,7 +1,8 @@
 import random
 import unittest
 
-from tests.helper import BEGIN, LEAST, MOST, TWO_TO_64, count, last, rule, slow_counts, text, told
+from tests.helper import (BEGIN, LEAST, MOST, TWO_TO_64, as_calls, count, last, rule, slow_counts, some_rules, text,
+                          told, tower)
 
 CATALAN = (1, 1, 2, 5, 14, 42, 132)
 
@@ -153,8 +154,7 @@ class LargeNumbers(unittest.TestCase):
         self.assertEqual(rows[7:], [[0, 1], [0, 1]])
 
     def test_towers_are_finite(self):
-        tower = [rule(name, *[name + 1] * 16) for name in range(6)]
-        rows = told(BEGIN, *tower, rule(6, "a"), rule(6), text(0, "aaaaaa"), count(0, 0, 6), count(0, 0, 0))
+        rows = told(BEGIN, *tower(6), rule(6, "a"), rule(6), text(0, "aaaaaa"), count(0, 0, 6), count(0, 0, 0))
         size = 16 ** 6
         chosen = size * (size - 1) * (size - 2) * (size - 3) * (size - 4) * (size - 5) // 720
         self.assertEqual(rows[9:], [[1], [0, chosen % TWO_TO_64], [0, 1]])
@@ -167,18 +167,10 @@ class LargeNumbers(unittest.TestCase):
 
 class AgainstTheSlowWay(unittest.TestCase):
 
-    def some_rules(self, source):
-        rules = []
-        for number in range(source.randint(1, 8)):
-            size = source.choice((0, 0, 1, 1, 1, 2, 2, 3))
-            rules.append((source.randint(0, 2), [source.choice((0, 1, 2, 2, 3, 353, 353, 354)) for part in range(size)]))
-        return rules
-
     def check(self, rules, signs):
         slow = slow_counts(rules, signs)
         pieces = [(name, i, j) for name in range(3) for j in range(len(signs) + 1) for i in range(j + 1)]
-        calls = [BEGIN] + [rule(left, *right) for left, right in rules]
-        calls += [text(name, signs) for name in range(3)] + [count(*piece) for piece in pieces]
+        calls = as_calls(rules) + [text(name, signs) for name in range(3)] + [count(*piece) for piece in pieces]
         rows = told(*calls)[1 + len(rules):]
         whole = [[1 if (name, 0, len(signs)) in slow else 0] for name in range(3)]
         self.assertEqual(rows, whole + [slow.get(piece, [0, 0]) for piece in pieces], (rules, signs))
@@ -189,7 +181,7 @@ class AgainstTheSlowWay(unittest.TestCase):
         met = {"none": 0, "some": 0, "endless": 0}
         for number in range(600):
             signs = "".join(source.choice("ab") for place in range(source.randint(0, 3)))
-            for row in self.check(self.some_rules(source), signs):
+            for row in self.check(some_rules(source), signs):
                 met["endless" if row == [1] else "none" if row == [0, 0] else "some"] += 1
         self.assertTrue(min(met.values()) > 200, met)
 
@@ -197,7 +189,7 @@ class AgainstTheSlowWay(unittest.TestCase):
         source = random.Random(7)
         for number in range(12):
             signs = "".join(source.choice("aab") for place in range(6))
-            self.check(self.some_rules(source), signs)
+            self.check(some_rules(source), signs)
 
 
 if __name__ == "__main__":

@@ -1,26 +1,35 @@
 """How many trees each symbol has with each piece of a text.
 
 A table has, for a symbol and a place, a dict: for each end such that the symbol makes the text from the place
-to below the end, how many trees it has with that piece, modulo 2^64, or ENDLESS. An end that is not there
-has no tree: a 0 that is there stands for so many trees that nothing is left of them modulo 2^64.
+to below the end, how many trees it has with that piece, narrowed, or ENDLESS. An end that is not there has no
+tree.
 """
 
-FIRST_BYTE = 256
+from treewords.symbols import FIRST_BYTE
+
 MODULUS = 18446744073709551616
 ENDLESS = -1
+
+
+# Counts may have more digits than there is room for. What is asked of them stays: how many they are modulo 2^64,
+# and, as long as they are below 2^64, how many in truth. Sums and products of narrowed counts are right again.
+def narrowed(count):
+    if count < MODULUS:
+        return count
+    return MODULUS + count % MODULUS
 
 
 def plus(one, other):
     if one == ENDLESS or other == ENDLESS:
         return ENDLESS
-    return (one + other) % MODULUS
+    return narrowed(one + other)
 
 
-# Both have at least one tree, or they were not in the table: so ENDLESS is never met by a true 0 here.
+# Both have at least one tree, or they were not in the table: so ENDLESS is never met by a 0 here.
 def times(one, other):
     if one == ENDLESS or other == ENDLESS:
         return ENDLESS
-    return one * other % MODULUS
+    return narrowed(one * other)
 
 
 def with_symbol_behind(table, ways, symbol):
